@@ -1,0 +1,1 @@
+"""Groups made of shuffles: shufflegroups.groups.answers(calls) is the way in."""

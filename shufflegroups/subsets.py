@@ -1,0 +1,54 @@
+"""Sets of a group's elements: lists of their numbers, rising."""
+
+
+def is_set(group, row):
+    before = -1
+    for i in row:
+        if i <= before or i >= group.size():
+            return False
+        before = i
+    return True
+
+
+def least_subgroup(group, members):
+    # In a finite group inverses are powers, so products of members are enough.
+    found = [0]
+    known = {0: True}
+    at = 0
+    while at < len(found):
+        for i in members:
+            reached = group.times(found[at], i)
+            if reached not in known:
+                known[reached] = True
+                found.append(reached)
+        at += 1
+    return sorted(found)
+
+
+def all_turned(group, members):
+    found = {}
+    for i in members:
+        for j in range(group.size()):
+            found[group.turned(i, j)] = True
+    return sorted(found)
+
+
+def least_normal(group, members):
+    # What is made of a set that turning leaves whole is left whole by it, too.
+    return least_subgroup(group, all_turned(group, members))
+
+
+def is_subgroup(group, members):
+    return least_subgroup(group, members) == members
+
+
+def is_normal(group, members):
+    return least_normal(group, members) == members
+
+
+def commutes(group, i, members):
+    return all([group.times(i, j) == group.times(j, i) for j in members])
+
+
+def commuting(group, members):
+    return [i for i in range(group.size()) if commutes(group, i, members)]
