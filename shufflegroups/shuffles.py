@@ -1,7 +1,8 @@
 """Shuffles: rows of the numbers below n, each once, kept as tuples."""
 
+from shufflegroups.structure import MOST_GENERATORS
+
 MOST_PLACES = 6
-MOST_GENERATORS = 4
 
 
 def unmoved(n):

@@ -1,15 +1,17 @@
 """A group by its table: numbered elements, their names, their words and their products."""
 
 MOST_IN_A_GROUP = 60
+MOST_GENERATORS = 4
 
 
 class Group:
     """Elements are known by their numbers alone; 0 is the one that changes nothing."""
 
-    def __init__(self, names, words, table):
+    def __init__(self, names, words, table, generators):
         self.names = names
         self.words = words
         self.table = table
+        self.generators = generators
         self.inverses = [row.index(0) for row in table]
 
     def size(self):
@@ -47,27 +49,24 @@ def generated(one, generators, product):
     """
     names = [one]
     words = [[]]
-    known = {one: True}
+    numbers = {one: 0}
     at = 0
     # Taking elements in the order of their words, and generators in theirs, an
     # element is first reached by the first of its shortest words.
     while at < len(names):
         for number, generator in enumerate(generators):
             reached = product(names[at], generator)
-            if reached not in known:
+            if reached not in numbers:
                 if len(names) == MOST_IN_A_GROUP:
                     return None
-                known[reached] = True
+                numbers[reached] = len(names)
                 names.append(reached)
                 words.append(words[at] + [number])
         at += 1
-    return Group(names, words, table_of(names, product))
+    return Group(names, words, table_of(names, numbers, product), [numbers[name] for name in generators])
 
 
-def table_of(names, product):
-    numbers = {}
-    for number, name in enumerate(names):
-        numbers[name] = number
+def table_of(names, numbers, product):
     table = []
     for first in names:
         table.append([numbers[product(first, second)] for second in names])

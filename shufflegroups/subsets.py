@@ -25,6 +25,10 @@ def least_subgroup(group, members):
     return sorted(found)
 
 
+def turned_by(group, members, j):
+    return sorted([group.turned(i, j) for i in members])
+
+
 def all_turned(group, members):
     found = {}
     for i in members:
@@ -52,3 +56,27 @@ def commutes(group, i, members):
 
 def commuting(group, members):
     return [i for i in range(group.size()) if commutes(group, i, members)]
+
+
+def keeping(group, members):
+    return [j for j in range(group.size()) if turned_by(group, members, j) == members]
+
+
+def mixed_pair(group, i, j):
+    return group.times(group.times(group.inverse(i), group.inverse(j)), group.times(i, j))
+
+
+def mixed_of(group, members, others):
+    found = {}
+    for i in members:
+        for j in others:
+            found[mixed_pair(group, i, j)] = True
+    return least_subgroup(group, sorted(found))
+
+
+def least_in_classes(group):
+    return [min(all_turned(group, [i])) for i in range(group.size())]
+
+
+def least_in_cosets(group, subgroup):
+    return [min([group.times(i, x) for x in subgroup]) for i in range(group.size())]

@@ -56,10 +56,9 @@ class ByDefinition(unittest.TestCase):
 
     def test_word(self):
         for group, defined in DEFINED.items():
-            words = [defined.words[name] for name in defined.names]
-            self.assertEqual(words, sorted(words, key=lambda word: (len(word), word)))
+            self.assertEqual(defined.words, sorted(defined.words, key=lambda word: (len(word), word)))
             told = ask(group, "word", [(i,) for i in defined.all])
-            self.assertEqual(told, [[len(word)] + word for word in words])
+            self.assertEqual(told, [[len(word)] + word for word in defined.words])
 
     def test_times(self):
         for group, defined in DEFINED.items():

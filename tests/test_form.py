@@ -99,6 +99,32 @@ class Form(unittest.TestCase):
             self.assertEqual(node.decorator_list, [])
             self.assertFalse(node.name in PYTHONS_OWN, (name, node.lineno))
 
+    def test_locals_are_not_called_like_imports_or_classes(self):
+        for path in FILES:
+            tree = ast.parse(path.read_text(encoding="utf-8"))
+            taken = [alias.name for node in tree.body if isinstance(node, ast.ImportFrom) for alias in node.names]
+            taken += [node.name for node in tree.body if isinstance(node, ast.ClassDef)]
+            self.assertEqual(len(taken), len(set(taken)))
+            bound = [node.arg for node in ast.walk(tree) if isinstance(node, ast.arg)]
+            names = [node for node in ast.walk(tree) if isinstance(node, ast.Name)]
+            bound += [node.id for node in names if isinstance(node.ctx, ast.Store)]
+            self.assertEqual([name for name in bound if name in taken], [], path.name)
+
+    def test_what_the_files_draw_from(self):
+        draws = {path.stem: [] for path in FILES}
+        for name, node in nodes(ast.ImportFrom):
+            draws[name[:-len(".py")]].append(node.module.split(".")[1])
+        # Taking away what draws from nothing that is left, nothing stays over: no two draw from one another.
+        while draws:
+            free = [stem for stem in draws if not [other for other in draws[stem] if other in draws]]
+            self.assertTrue(free, draws)
+            draws = {stem: draws[stem] for stem in draws if stem not in free}
+
+    def test_powers(self):
+        for name, node in nodes(ast.BinOp):
+            if isinstance(node.op, ast.Pow):
+                self.assertIsInstance(node.right, ast.Constant, (name, node.lineno))
+
     def test_methods(self):
         own = [node.name for name, node in nodes(ast.FunctionDef)]
         for name, node in nodes(ast.Call):

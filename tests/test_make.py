@@ -5,8 +5,9 @@ import unittest
 from tests.helper import GREATEST, GROUPS, call, make, run
 
 SIZES = {
-    "one": 1, "two": 2, "three": 3, "four": 4, "six": 6, "klein": 4, "eight": 8, "triangle": 6,
-    "square": 8, "tetrahedron": 12, "cube": 24, "icosahedron": 60,
+    "one": 1, "two": 2, "three": 3, "four": 4, "five": 5, "six": 6, "klein": 4, "eight": 8, "four and two": 8,
+    "nine": 9, "triangle": 6, "alike": 6, "square": 8, "hexagon": 12, "tetrahedron": 12, "twenty": 20, "cube": 24,
+    "triangles": 36, "icosahedron": 60,
 }
 
 

@@ -2,16 +2,19 @@
 
 import unittest
 
-from tests.helper import DEFINED, GREATEST, GROUPS, call, make, run, snapshot
+from tests.helper import DEFINED, GREATEST, GROUPS, call, calls_for, make, run, snapshot
 
 NO_PLACES = (3, 4, 255, GREATEST)
-# Good further values for each call of points 2 to 13, on a group of two elements at least.
+# Good further values for each call that asks of one place, on a group of two elements at least.
 GOOD = {
     "size": (), "name": (1,), "number": ([0, 1, 2],), "word": (1,), "times": (1, 1), "inverse": (1,),
     "power": (1, 2), "order": (1,), "made": ([1],), "kind": ([1],), "normal": ([1],), "central": ([1],),
+    "stay": ([1],), "mixed": ([1], [0, 1]), "classes": (), "cosets": ([0],), "series": (0,), "prime": (2,),
+    "shape": (), "simple": (),
 }
 OF_ONE_ELEMENT = ("name", "word", "inverse", "order")
-OF_A_SET = ("made", "kind", "normal", "central")
+OF_A_SET = ("made", "kind", "normal", "central", "stay", "cosets")
+OF_TWO_PLACES = ("same", "maps")
 
 
 def wrong_sets(size):
@@ -36,8 +39,78 @@ class NoGroupThere(unittest.TestCase):
                     filled = [make(place, *GROUPS["triangle"]) for place in range(3) if place != k]
                     self.assertEqual(run(call(what, k, *given), *filled, call(what, k, *given)), [[-1], [6], [6], [-1]])
 
+    def test_two_places(self):
+        filled = [make(place, *GROUPS["triangle"]) for place in range(3)]
+        for what in OF_TWO_PLACES:
+            for k in NO_PLACES:
+                told = run(*filled, call(what, k, 0), call(what, 0, k), call(what, k, k))
+                self.assertEqual(told[3:], [[-1]] * 3)
+            for k in range(3):
+                asked = [call(what, k, l) for l in range(3)] + [call(what, l, k) for l in range(3)]
+                self.assertEqual(run(*[filled[l] for l in range(3) if l != k], *asked)[2:], [[-1]] * 6)
+
+    def test_over(self):
+        filled = [make(place, *GROUPS["triangle"]) for place in range(3)]
+        for k in NO_PLACES:
+            asked = [call("over", d, k, [0]) for d in range(3)] + [call("over", k, d, [0]) for d in range(3)]
+            self.assertEqual(run(*filled, *asked)[3:], [[-1]] * 6)
+        for k in range(3):
+            others = [filled[place] for place in range(3) if place != k]
+            self.assertEqual(run(*others, *[call("over", d, k, [0]) for d in range(3)])[2:], [[-1]] * 3)
+
+    def test_pairs(self):
+        filled = [make(place, *GROUPS["three"]) for place in range(3)]
+        for x in NO_PLACES:
+            asked = [call("pairs", *given) for given in ((x, 0, 1), (0, x, 1), (0, 1, x), (x, x, x))]
+            self.assertEqual(run(*filled, *asked)[3:], [[-1]] * 4)
+        for k in range(3):
+            others = [filled[place] for place in range(3) if place != k]
+            asked = [call("pairs", d, k, l) for d in range(3) for l in range(3)]
+            asked += [call("pairs", d, l, k) for d in range(3) for l in range(3)]
+            self.assertEqual(run(*others, *asked)[2:], [[-1]] * 18)
+
+    def test_what_is_put_may_go_where_no_group_is(self):
+        told = run(make(0, *GROUPS["three"]), call("over", 1, 0, [0]), call("pairs", 2, 0, 1))
+        self.assertEqual(told, [[3], [3], [9]])
+
+
+class FirstOfAll(unittest.TestCase):
+    """-1 comes before every other refusal."""
+
     def test_before_no_such_name(self):
         self.assertEqual(run(call("number", 0, [9]), call("number", 3, [])), [[-1], [-1]])
+
+    def test_before_no_subgroup_and_no_prime(self):
+        group = make(0, *GROUPS["triangle"])
+        told = run(
+            group, call("cosets", 1, []), call("cosets", 3, [1]), call("cosets", 0, [2, 1]), call("cosets", 0, [1, 6]),
+            call("prime", 1, 4), call("prime", 3, 0), call("prime", GREATEST, GREATEST),
+        )
+        self.assertEqual(told[1:], [[-1]] * 7)
+
+    def test_before_not_normal(self):
+        told = run(
+            make(0, *GROUPS["triangle"]), call("over", 3, 0, [0, 1]), call("over", GREATEST, 0, []),
+            call("over", 0, 1, [0, 1]), call("over", 0, 3, []), call("over", 1, 0, [1, 0]), call("over", 1, 0, [1, 6]),
+            call("over", 3, 0, [1, 0]), call("over", 1, 0, [0, 1]),
+        )
+        self.assertEqual(told[1:], [[-1]] * 7 + [[-2]])
+
+    def test_before_too_great_a_product(self):
+        told = run(
+            make(0, *GROUPS["icosahedron"]), call("pairs", 3, 0, 0), call("pairs", 0, 0, 1), call("pairs", 0, 1, 0),
+            call("pairs", 0, 0, 3), call("pairs", 0, 3, 0), make(1, 1, [(0,)] * 4), call("pairs", 3, 1, 1),
+            call("pairs", 2, 1, 2), call("pairs", 2, 0, 0), call("pairs", 2, 1, 1),
+        )
+        self.assertEqual(told, [[60]] + [[-1]] * 5 + [[1], [-1], [-1], [-3], [-3]])
+
+    def test_before_too_many_choices(self):
+        for what in OF_TWO_PLACES:
+            told = run(
+                *calls_for("alike", 0), call(what, 0, 1), call(what, 1, 0), call(what, 0, 3),
+                *calls_for("nine", 1), call(what, 0, 1),
+            )
+            self.assertEqual(told, [[6], [-1], [-1], [-1], [9], [-6]])
 
 
 class NoElement(unittest.TestCase):
@@ -76,9 +149,36 @@ class NoSet(unittest.TestCase):
 
     def test_no_set_of_this_group_but_of_another(self):
         for what in OF_A_SET:
-            told = run(make(0, *GROUPS["two"]), make(1, *GROUPS["triangle"]), call(what, 0, [0, 5]), call(what, 1, [0, 5]))
+            groups = [make(0, *GROUPS["two"]), make(1, *GROUPS["triangle"])]
+            told = run(*groups, call(what, 0, [0, 5]), call(what, 1, [0, 5]))
             self.assertEqual(told[2], [-1])
             self.assertNotEqual(told[3], [-1])
+
+    def test_mixed_on_either_side(self):
+        for group in ("two", "triangle", "tetrahedron", "cube over four", "klein and klein"):
+            for s in wrong_sets(DEFINED[group].size):
+                for given in ((s, []), ([], s), (s, [0, 1]), ([0, 1], s), (s, s)):
+                    self.assertEqual(run(*calls_for(group, 0), call("mixed", 0, *given))[-1], [-1])
+
+    def test_over(self):
+        for group in ("two", "triangle", "tetrahedron", "cube over four", "klein and klein"):
+            for s in wrong_sets(DEFINED[group].size):
+                for d in range(2):
+                    self.assertEqual(run(*calls_for(group, 0), call("over", d, 0, s))[-1], [-1])
+
+    def test_over_a_set_of_the_place_it_comes_from(self):
+        groups = [make(0, *GROUPS["two"]), make(1, *GROUPS["triangle"])]
+        self.assertEqual(run(*groups, call("over", 1, 0, [0, 2, 5]), call("over", 0, 1, [0, 2, 5]))[2:], [[-1], [2]])
+        self.assertEqual(run(*groups, call("over", 1, 0, [0, 1]), call("size", 1))[2:], [[1], [1]])
+
+    def test_sets_and_elements_of_groups_made_of_groups(self):
+        for group in ("cube over four", "klein and klein", "two and triangle and five", "triangle over all"):
+            first = calls_for(group, 0)
+            size = DEFINED[group].size
+            for what in OF_A_SET:
+                self.assertEqual(run(*first, call(what, 0, [size]), call(what, 0, [0, 0]))[-2:], [[-1], [-1]])
+            for what in OF_ONE_ELEMENT:
+                self.assertEqual(run(*first, call(what, 0, size))[-1], [-1])
 
 
 class NothingChanges(unittest.TestCase):
@@ -90,10 +190,16 @@ class NothingChanges(unittest.TestCase):
         ]
         calls += [call(what, 1, 6) for what in OF_ONE_ELEMENT]
         calls += [call(what, 1, [1, 0]) for what in OF_A_SET]
+        calls += [call("mixed", 1, [1, 0], []), call("cosets", 1, [1]), call("prime", 1, 4)]
+        calls += [call("over", *given) for given in ((0, 1, [0, 1]), (1, 1, []), (2, 1, [1, 0]), (3, 1, [0]))]
+        calls += [call("pairs", 3, 0, 1), call("pairs", 0, 2, 1), call("pairs", 1, 1, 3)]
+        calls += [call("same", 1, 2), call("maps", 2, 1), call("same", 3, 0)]
         return calls + [call("size", 2)]
 
     def test_refusals_stand_alone(self):
-        for told in run(make(1, *GROUPS["triangle"]), *self.refused())[1:]:
+        groups = [make(0, *GROUPS["klein"]), make(1, *GROUPS["triangle"])]
+        for refused in self.refused():
+            told = run(*groups, refused)[2]
             self.assertEqual(len(told), 1)
             self.assertTrue(told[0] in (-1, -2, -3))
 
@@ -112,6 +218,10 @@ class NothingChanges(unittest.TestCase):
         before = run(group, *snapshot(1, 6))[1:]
         for what, given in GOOD.items():
             self.assertEqual(run(group, call(what, 1, *given), *snapshot(1, 6))[2:], before)
+        for what in OF_TWO_PLACES:
+            self.assertEqual(run(group, call(what, 1, 1), *snapshot(1, 6))[2:], before)
+            other = make(0, *GROUPS["nine"])
+            self.assertEqual(run(other, group, call(what, 1, 0), call(what, 0, 1), *snapshot(1, 6))[4:], before)
 
 
 class PlacesKnowNothingOfOneAnother(unittest.TestCase):
@@ -125,8 +235,18 @@ class PlacesKnowNothingOfOneAnother(unittest.TestCase):
             others = [make(place, *GROUPS["square"]) for place in range(3) if place != k]
             self.assertEqual(run(filled[k], *others, *asked)[3:], alone)
 
+    def test_groups_made_of_groups_stay_when_those_change(self):
+        first = calls_for("cube", 0) + [call("over", 1, 0, DEFINED["cube"].normal_of_size(4)), call("pairs", 2, 1, 1)]
+        for k, size in ((1, 6), (2, 36)):
+            before = run(*first, *snapshot(k, size))[3:]
+            for other in range(3):
+                if other != k:
+                    for change in (make(other, 2, []), call("over", other, other, [0])):
+                        self.assertEqual(run(*first, change, *snapshot(k, size))[4:], before)
+
     def test_one_group_in_all_places(self):
-        told = run(*[make(k, *GROUPS["square"]) for k in range(3)], make(1, 2, []), *[call("size", k) for k in range(3)])
+        filled = [make(k, *GROUPS["square"]) for k in range(3)]
+        told = run(*filled, make(1, 2, []), *[call("size", k) for k in range(3)])
         self.assertEqual(told[4:], [[8], [1], [8]])
 
 

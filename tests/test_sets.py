@@ -2,14 +2,11 @@
 
 import unittest
 
-from tests.helper import DEFINED, ask, least_that_has
+from tests.helper import DEFINED, ask, counted, least_that_has
 
 # Small enough for going through all of their sets.
-SMALL = ("one", "two", "three", "four", "six", "klein", "eight", "triangle", "square")
-
-
-def counted(row):
-    return [len(row)] + list(row)
+SMALL = [group for group in DEFINED if DEFINED[group].size <= 9]
+GREATER = [group for group in DEFINED if DEFINED[group].size > 9]
 
 
 class Edges(unittest.TestCase):
@@ -89,7 +86,7 @@ class GreaterGroups(unittest.TestCase):
         return [[i] for i in defined.all] + [[i, i + 1] for i in defined.all[:-1]]
 
     def test_made_is_a_subgroup_that_has_the_set(self):
-        for group in ("tetrahedron", "cube", "icosahedron"):
+        for group in GREATER:
             defined = DEFINED[group]
             sets = self.one_and_two(defined)
             for s, told in zip(sets, ask(group, "made", [(s,) for s in sets])):
@@ -97,9 +94,10 @@ class GreaterGroups(unittest.TestCase):
                 self.assertTrue(set(s) <= set(told[1:]))
                 self.assertTrue(defined.is_subgroup(told[1:]))
                 self.assertEqual(defined.size % told[0], 0)
+                self.assertEqual(told[1:], defined.closed(s))
 
     def test_made_of_one_element_is_its_powers(self):
-        for group in ("tetrahedron", "cube", "icosahedron"):
+        for group in GREATER:
             defined = DEFINED[group]
             for i, told in enumerate(ask(group, "made", [([i],) for i in defined.all])):
                 powers = [0]
@@ -117,7 +115,7 @@ class GreaterGroups(unittest.TestCase):
                 self.assertTrue(defined.is_normal(row[1:]))
 
     def test_kind_and_central(self):
-        for group in ("tetrahedron", "cube", "icosahedron"):
+        for group in GREATER:
             defined = DEFINED[group]
             sets = self.one_and_two(defined)
             sets += [row[1:] for row in ask(group, "made", [(s,) for s in sets])]
